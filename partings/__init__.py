@@ -1,1 +1,1 @@
-"""A number's parts: ways to part a number, turned, told of and moved into one another."""
+"""A number's parts: ways to part a number, turned, moved into one another, numbered and counted."""

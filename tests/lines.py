@@ -8,10 +8,33 @@ ABOUT = [3]
 TURN = [4]
 SPLIT = [5]
 JOIN = [6]
+MOVE = [7]
+NEXT = [9]
+PLACE = [10]
+
+LEAST = -2147483648
+GREATEST = 2147483647
+ALL_OF_400 = 6727090051741041926
 
 
 def put(parts):
     return [1, len(parts)] + list(parts)
+
+
+def core(t):
+    return [8, t]
+
+
+def at(n, k):
+    return [11, n, k]
+
+
+def count(n, kind):
+    return [12, n, kind]
+
+
+def residue(which, n, r, m):
+    return [13, which, n, r, m]
 
 
 def run(*calls):
@@ -43,6 +66,25 @@ def cut(told):
 def shown(parts):
     """What the call parts answers when these are there."""
     return [len(parts)] + list(parts) + [0] * (400 - len(parts))
+
+
+def read(answer):
+    """The parts that an answer of the call parts tells."""
+    parts = answer[1:answer[0] + 1]
+    if answer != shown(parts):
+        raise AssertionError(f"not what parts may answer: {answer}")
+    return parts
+
+
+def rank_by_words(parts):
+    return max(parts) - len(parts) if parts else 0
+
+
+def crank_by_words(parts):
+    ones = sum(1 for part in parts if part == 1)
+    if ones == 0:
+        return max(parts, default=0)
+    return sum(1 for part in parts if part > ones) - ones
 
 
 def ways(number, most=None):

@@ -2,7 +2,7 @@
 
 import unittest
 
-from lines import ABOUT, PARTS, all_ways_up_to, put, run, shown, ways
+from lines import ABOUT, PARTS, all_ways_up_to, crank_by_words, put, rank_by_words, run, shown, ways
 
 
 def about(parts):
@@ -11,17 +11,6 @@ def about(parts):
 
 def below_zero(number):
     return 2 ** 32 - number
-
-
-def rank_by_words(parts):
-    return max(parts) - len(parts) if parts else 0
-
-
-def crank_by_words(parts):
-    ones = sum(1 for part in parts if part == 1)
-    if ones == 0:
-        return max(parts, default=0)
-    return sum(1 for part in parts if part > ones) - ones
 
 
 def square_by_words(parts):

@@ -75,6 +75,32 @@ class Language(unittest.TestCase):
         for path, node in nodes(ast.Div, ast.MatMult):
             self.fail(path)
 
+    def test_comprehensions(self):
+        for path, node in nodes(ast.ListComp):
+            self.assertEqual(len(node.generators), 1, (path, node.lineno))
+            self.assertLessEqual(len(node.generators[0].ifs), 1, (path, node.lineno))
+
+    def test_class_bodies_hold_methods_alone(self):
+        for path, node in nodes(ast.ClassDef):
+            self.assertEqual({item.__class__ for item in node.body}, {ast.FunctionDef}, (path, node.name))
+            self.assertEqual(node.decorator_list, [], (path, node.name))
+
+    def test_no_local_is_called_like_an_import_or_a_class(self):
+        for path in files():
+            tree = ast.parse(path.read_text())
+            taken = {alias.asname or alias.name for node in ast.walk(tree) if isinstance(node, ast.ImportFrom)
+                     for alias in node.names}
+            taken |= {node.name for node in ast.walk(tree) if isinstance(node, ast.ClassDef)}
+            for function in ast.walk(tree):
+                if isinstance(function, ast.FunctionDef):
+                    for item in function.body + [function.args]:
+                        self.assertEqual(taken & set(bound_names(item)), set(), (path, function.name))
+
+    def test_powers_have_a_written_exponent(self):
+        for path, node in nodes(ast.BinOp):
+            if isinstance(node.op, ast.Pow):
+                self.assertIsInstance(node.right, ast.Constant, (path, node.lineno))
+
     def test_imports_are_the_packages_own(self):
         for path, node in nodes(ast.ImportFrom):
             self.assertEqual(node.level, 0, path)
