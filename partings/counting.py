@@ -70,7 +70,7 @@ def at_least(table, which, number, least):
 
 def with_residue(table, which, number, residue, divisor):
     if number < 2:
-        # What at_least says does not hold here; there is one way alone, of ones.
+        # The law of the rank fails for 0, that of the crank for 1; there is one way alone, of ones.
         parts = [1] * number
         told = rank(parts) if which == 0 else crank(parts)
         return 1 if (told - residue) % divisor == 0 else 0
